@@ -93,3 +93,14 @@ def do_change(session, change):
         take_back(session)
     else:
         do_step(session, session.taken.pop())
+
+
+def trail(session):
+    """The first square, then behind each step gone the square come to."""
+    square = session.first
+    squares = [square]
+    for step in session.done:
+        if step[0] == GO:
+            square = square_beyond(session.garden, square, step[1])
+            squares.append(square)
+    return squares

@@ -132,3 +132,42 @@ def square_beyond(garden, square, side):
     if side == LOWER:
         return square + garden.wide
     return square - 1
+
+
+def level_sign(garden, x, y):
+    """The sign between the corners above square (x, y); y is high for the lower border."""
+    if y == 0 or y == garden.high or garden.hedges[level_side(garden, x, y - 1)] == 1:
+        return LEVEL
+    return BLANK
+
+
+def upright_sign(garden, x, y):
+    """The sign at the left of square (x, y)."""
+    if x == 0 or garden.hedges[upright_side(garden, x - 1, y)] == 1:
+        return UPRIGHT
+    return BLANK
+
+
+def level_line(garden, y):
+    """The line of the drawing above the squares of row y; y is high for the last line."""
+    line = []
+    for x in range(garden.wide):
+        line.extend([CORNER, level_sign(garden, x, y)])
+    return line + [CORNER, ROW_END]
+
+
+def square_line(garden, y):
+    """The line of the drawing that the squares of row y lie in."""
+    line = []
+    for x in range(garden.wide):
+        line.extend([upright_sign(garden, x, y), BLANK])
+    return line + [UPRIGHT, ROW_END]
+
+
+def draw(garden):
+    """The bytes of the drawing of the garden as it stands."""
+    drawing = level_line(garden, 0)
+    for y in range(garden.high):
+        drawing.extend(square_line(garden, y))
+        drawing.extend(level_line(garden, y + 1))
+    return drawing

@@ -30,9 +30,18 @@ def beginning(session):
     return list(JOURNAL_MARK) + number_bytes(len(row), 4) + row
 
 
+def begin_anew(journal):
+    """Begins the journal anew from its session as it is, and gives back the beginning's bytes."""
+    head = beginning(journal.session)
+    journal.running = sum_on(ALL_BITS, head)
+    return head
+
+
 def begun(session):
     """A journal that begins from this session."""
-    return Journal(session, sum_on(ALL_BITS, beginning(session)))
+    journal = Journal(session, ALL_BITS)
+    begin_anew(journal)
+    return journal
 
 
 def note(journal, change):

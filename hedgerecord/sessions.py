@@ -1,9 +1,10 @@
 """The calls on a record, and their answers."""
 
-from hedgerecord.changes import GO, REDO, SET, UNDO, Session, refusal
-from hedgerecord.gardens import read_garden, square_count
-from hedgerecord.journals import NOTE_SIZE, begun, beginning_size, note, play_notes, read_beginning
-from hedgerecord.writing import read_session
+from hedgerecord.changes import GO, REDO, SET, UNDO, Session, refusal, trail
+from hedgerecord.gardens import draw, read_garden, square_count
+from hedgerecord.journals import NOTE_SIZE, begin_anew, beginning_size, begun, note, play_notes, read_beginning
+from hedgerecord.ways import distances, passage_count, ring_count, room_count
+from hedgerecord.writing import read_session, session_bytes
 
 BEGIN_CALL = 1
 LOAD_CALL = 2
@@ -12,6 +13,12 @@ SET_CALL = 4
 GO_CALL = 5
 UNDO_CALL = 6
 REDO_CALL = 7
+DRAWN_CALL = 8
+COUNTS_CALL = 9
+HOME_CALL = 10
+TRAIL_CALL = 11
+SAVE_CALL = 12
+HEAD_CALL = 13
 
 MOST_DRAWING = 1024
 MOST_BYTES = 16384
@@ -65,16 +72,16 @@ def answer_play(record, row):
     return [0, played, size + played * NOTE_SIZE]
 
 
-def answer_change(record, change):
+def answer_change(journal, change):
     """The answer to set, go, undo or redo."""
-    refused = refusal(record.journal.session, change)
+    refused = refusal(journal.session, change)
     if refused != 0:
         return [refused]
-    return [0] + note(record.journal, change)
+    return [0] + note(journal, change)
 
 
-def read_call(call):
-    """The change that a call of set, go, undo or redo asks for."""
+def read_change_call(call):
+    """The change that a call of set, go, undo or redo asks for, None if it is another call."""
     if call[0] == SET_CALL:
         return (SET, call[1], call[2])
     if call[0] == GO_CALL:
@@ -83,6 +90,37 @@ def read_call(call):
         return (UNDO, 0, 0)
     if call[0] == REDO_CALL:
         return (REDO, 0, 0)
+    return None
+
+
+def answer_counts(session):
+    """The answer to counts."""
+    garden = session.garden
+    told = [0, garden.wide, garden.high, passage_count(garden), room_count(garden), ring_count(garden)]
+    return told + [session.square, len(session.done), len(session.taken)]
+
+
+def answer_home(session):
+    """The answer to home."""
+    steps = distances(session.garden, session.square).get(session.first)
+    return [-5] if steps is None else [0, steps]
+
+
+def answer_question(journal, number):
+    """The answer to drawn, counts, home, trail, save or head."""
+    session = journal.session
+    if number == DRAWN_CALL:
+        return [0] + draw(session.garden)
+    if number == COUNTS_CALL:
+        return answer_counts(session)
+    if number == HOME_CALL:
+        return answer_home(session)
+    if number == TRAIL_CALL:
+        return [0] + trail(session)
+    if number == SAVE_CALL:
+        return [0] + session_bytes(session)
+    if number == HEAD_CALL:
+        return [0] + begin_anew(journal)
     raise UnknownCall()
 
 
@@ -96,7 +134,10 @@ def answer_call(record, call):
         return answer_play(record, call[2:])
     if record.journal is None:
         return [-10]
-    return answer_change(record, read_call(call))
+    change = read_change_call(call)
+    if change is None:
+        return answer_question(record.journal, call[0])
+    return answer_change(record.journal, change)
 
 
 def call_size(calls, place):

@@ -4,12 +4,37 @@ The second telling is written in another way than the program (text patterns, st
 the sum, every state found by doing all steps from the beginning), so that both are not wrong alike.
 """
 
+import functools
 import re
 import struct
+import unittest
 
 from hedgerecord.sessions import Record, answer_call, answers
 
 LARGEST = 4294967295
+
+
+class Case(unittest.TestCase):
+    """A test case that tells where long lists differ; unittest would take minutes to line them up."""
+
+    def __init__(self, *args):
+        super().__init__(*args)
+        self.addTypeEqualityFunc(list, self.check_lists)
+        self.addTypeEqualityFunc(dict, self.check_dicts)
+
+    def check_lists(self, first, second, msg=None):
+        if first != second:
+            place = 0
+            while first[place:place + 1] == second[place:place + 1]:
+                place += 1
+            parts = [repr(row[place:place + 20])[:300] for row in (first, second)]
+            self.fail(self._formatMessage(msg, f"from place {place} on {parts[0]} and {parts[1]}"))
+
+    def check_dicts(self, first, second, msg=None):
+        if first != second:
+            names = [name for name in {**first, **second} if first.get(name) != second.get(name)]
+            parts = [repr([state.get(name) for name in names])[:300] for state in (first, second)]
+            self.fail(self._formatMessage(msg, f"in {names} {parts[0]} and {parts[1]}"))
 
 
 # Gardens and their drawings
@@ -53,7 +78,13 @@ def text_bytes(text):
 
 def garden_of(row):
     """(wide, high, hedges) of a drawing, or None."""
-    lines = bytes(row).decode("latin-1").split("\n")
+    return garden_of_text(bytes(row).decode("latin-1"))
+
+
+@functools.lru_cache(maxsize=100)
+def garden_of_text(text):
+    # Kept, as the second telling asks for the same garden over and over.
+    lines = text.split("\n")
     if lines.pop() != "" or len(lines) % 2 == 0 or not 3 <= len(lines) <= 21:
         return None
     high = len(lines) // 2
@@ -68,7 +99,7 @@ def garden_of(row):
     if not all(re.fullmatch(r"\+([- ]\+){%d}" % wide, line) for line in lines[2:-1:2]):
         return None
     signs = "".join(line[2:-1:2] for line in lines[1::2]) + "".join(line[1::2] for line in lines[2:-1:2])
-    return wide, high, [0 if sign == " " else 1 for sign in signs]
+    return wide, high, tuple(0 if sign == " " else 1 for sign in signs)
 
 
 # Bytes
@@ -168,6 +199,13 @@ def go(k):
 
 UNDO = [6]
 REDO = [7]
+DRAWN = [8]
+COUNTS = [9]
+HOME = [10]
+TRAIL = [11]
+SAVE = [12]
+HEAD = [13]
+QUESTIONS = (DRAWN, COUNTS, HOME, TRAIL, SAVE, HEAD)
 
 
 def split(told):
@@ -193,7 +231,13 @@ def firsts(*calls):
     return [row[0] for row in run(*calls)]
 
 
-# The program's own state, for what calls 1 to 7 can't tell
+def told_behind(calls, question):
+    """What the question answers behind these calls, without the 0; the refusal if it is one."""
+    answer = run(*calls, question)[-1]
+    return answer[1:] if answer[0] == 0 else answer[0]
+
+
+# The program's own state, to see that nothing is changed that no answer tells
 
 def held(record):
     """All that the record holds, copied."""
@@ -244,6 +288,8 @@ class Model:
             return self.play(call[2:])
         if self.first is None:
             return [-10]
+        if call[0] > 7:
+            return self.question(call[0])
         change = {4: (0,) + tuple(call[1:]), 5: (1,) + tuple(call[1:]) + (0,), 6: (2, 0, 0), 7: (3, 0, 0)}[call[0]]
         refused = self.refused(change)
         return [refused] if refused else [0] + self.change(change)
@@ -292,6 +338,56 @@ class Model:
         row = change_row(*change)
         self.noted += row
         return row + four(crc(self.noted))
+
+    def question(self, number):
+        if number == 8:
+            return [0] + self.drawn()
+        if number == 9:
+            return [0] + self.counts()
+        if number == 10:
+            steps = self.steps_home()
+            return [-5] if steps is None else [0, steps]
+        if number == 11:
+            return [0] + self.trail()
+        if number == 12:
+            return [0] + self.saved()
+        self.noted = head_row(self.saved())
+        return [0] + self.noted
+
+    def drawn(self):
+        wide, high, _ = garden_of(self.first[0])
+        return list(drawing_text(wide, high, self.state()[0].values()).encode("ascii"))
+
+    def passages(self):
+        return [pair for pair, hedge in self.state()[0].items() if not hedge]
+
+    def counts(self):
+        """Rooms by joining the squares of each passage, rings as the passages that joined nothing new."""
+        wide, high, _ = garden_of(self.first[0])
+        room = list(range(wide * high))
+        rings = 0
+        for a, b in self.passages():
+            rings += room[a] == room[b]
+            room = [room[a] if number == room[b] else number for number in room]
+        return [wide, high, len(self.passages()), len(set(room)), rings, self.state()[1], len(self.done),
+                len(self.taken)]
+
+    def steps_home(self):
+        """Shortened passage by passage until nothing can be shortened any more."""
+        far = {self.first[1]: 0}
+        passages = self.passages()
+        changed = True
+        while changed:
+            changed = False
+            for a, b in passages + [(b, a) for a, b in passages]:
+                if a in far and far.get(b, 1000) > far[a] + 1:
+                    far[b] = far[a] + 1
+                    changed = True
+        return far.get(self.state()[1])
+
+    def trail(self):
+        gone = [size + 1 for size, step in enumerate(self.done) if step[0] == 1]
+        return [self.first[1]] + [self.state(self.done[:size])[1] for size in gone]
 
     def saved(self):
         return session_row(self.first[0], self.first[1], [change_row(*step) for step in self.done],

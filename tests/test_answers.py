@@ -5,8 +5,8 @@ import unittest
 
 import helper
 from helper import (
-    REDO, UNDO, begin, change_row, drawing, go, head_row, held_behind, inner_sides, load, play, run, session_row,
-    set_hedge, split,
+    COUNTS, DRAWN, HEAD, HOME, QUESTIONS, REDO, SAVE, TRAIL, UNDO, Case, begin, change_row, drawing, go, head_row,
+    held_behind, inner_sides, load, play, run, session_row, set_hedge, split,
 )
 from hedgerecord.sessions import UnknownCall, answers
 
@@ -15,7 +15,7 @@ def flat(calls):
     return [number for call in calls for number in call]
 
 
-class Interface(unittest.TestCase):
+class Interface(Case):
     def test_how_answers_stand(self):
         garden = drawing(2, 1)
         told = answers(flat([[6], begin(garden), [5, 1], [5, 1], [4, 0, 9], [6], [7]]))
@@ -25,8 +25,22 @@ class Interface(unittest.TestCase):
         self.assertEqual(answers(play(journal)), [3, 0, 1, len(journal)])
         self.assertEqual(answers(load(session_row(garden))), [1, 0])
 
+    def test_how_answers_to_questions_stand(self):
+        garden = drawing(2, 1)
+        session = session_row(garden, 1, [change_row(1, 3)])
+        told = answers(flat([begin(garden, 1), go(3), DRAWN, COUNTS, HOME, TRAIL, SAVE, HEAD, set_hedge(0, 1), HOME]))
+        expected = [len(garden) + 1, 0] + garden
+        expected += [9, 0, 2, 1, 1, 1, 0, 0, 1, 0]
+        expected += [2, 0, 1]
+        expected += [3, 0, 1, 0]
+        expected += [len(session) + 1, 0] + session
+        expected += [len(session) + 9, 0] + head_row(session)
+        expected += [13, 0] + helper.note_rows(head_row(session), [change_row(0, 0, 1)])[0]
+        expected += [1, -5]
+        self.assertEqual(told[1 + 1 + 14:], expected)
+
     def test_plain_numbers_in_a_new_list(self):
-        calls = flat([begin(drawing(2, 1)), [5, 1], [6], [7], [5, 9]])
+        calls = flat([begin(drawing(2, 1)), [5, 1], [6], [7], [5, 9], *QUESTIONS, set_hedge(0, 1), *QUESTIONS])
         told = answers(calls)
         self.assertIs(type(told), list)
         self.assertTrue(all(type(number) is int for number in told))
@@ -37,23 +51,38 @@ class Interface(unittest.TestCase):
 
     def test_nothing_handed_in_is_changed(self):
         session = session_row(drawing(2, 2), 1, [change_row(0, 0, 1)], [change_row(1, 2)])
-        calls = flat([begin(drawing(2, 2)), set_hedge(0, 1), go(2), UNDO, load(session), REDO, set_hedge(0, 0),
-                      play(helper.journal_row(session, [change_row(3), change_row(2)])), UNDO, begin([1] * 1025)])
+        calls = flat([begin(drawing(2, 2)), set_hedge(0, 1), go(2), UNDO, load(session), REDO, set_hedge(0, 0), *QUESTIONS,
+                      play(helper.journal_row(session, [change_row(3), change_row(2)])), UNDO, begin([1] * 1025), *QUESTIONS])
         kept = list(calls)
         answers(calls)
         self.assertEqual(calls, kept)
 
     def test_nothing_is_kept(self):
-        calls = flat([begin(drawing(2, 2)), set_hedge(0, 1), go(2), UNDO])
+        calls = flat([begin(drawing(2, 2)), set_hedge(0, 1), go(2), UNDO, *QUESTIONS])
         self.assertEqual(answers(calls), answers(calls))
-        self.assertEqual(answers([6]), [1, -10])
-        self.assertEqual(answers([7]), [1, -10])
+        for number in range(6, 14):
+            self.assertEqual(answers([number]), [1, -10])
 
     def test_400_calls(self):
         calls = [begin(drawing(1, 2))] + [go(2), UNDO, REDO] * 133
         model = helper.Model()
         self.assertEqual(run(*calls), [model.answer(call) for call in calls])
         self.assertEqual(len(split(answers([6] * 400))), 400)
+
+    def test_400_calls_with_questions(self):
+        start = begin(drawing(10, 10, [p % 3 % 2 for p in range(180)]), 55)
+        steps = [go(0), set_hedge(30, 1), go(1), set_hedge(40, 0), UNDO, go(2), REDO, go(3), UNDO, set_hedge(140, 1)]
+        calls = [start]
+        while len(calls) < 400:
+            calls.append(steps[len(calls) // 2 % 10] if len(calls) % 2 else QUESTIONS[len(calls) // 2 % 6])
+        model = helper.Model()
+        self.assertEqual(run(*calls), [model.answer(call) for call in calls])
+
+    def test_400_calls_behind_200_steps(self):
+        calls = [begin(drawing(10, 10), 11)] + [go(1), go(2), go(3), go(0)] * 50
+        calls += [QUESTIONS[number % 6] for number in range(400 - len(calls))]
+        model = helper.Model()
+        self.assertEqual(run(*calls), [model.answer(call) for call in calls])
 
     def test_long_rows_in_one_line(self):
         self.assertEqual(answers(load([0] * 16500) + play([0] * 13000) + [6]), [1, -2, 1, -9, 1, -10])
@@ -96,6 +125,8 @@ class Chance:
             return load(self.spoilt(self.model.saved()))
         if pick < 0.05:
             return play(self.spoilt(self.journal))
+        if pick < 0.15:
+            return self.chance.choice(QUESTIONS)
         if pick < 0.25:
             return set_hedge(self.chance.choice((0, 1, 2, 3, 5, 8, 11, 100, 179, 180)), self.chance.choice((0, 0, 1, 1, 2)))
         if pick < 0.65:
@@ -109,12 +140,14 @@ class Chance:
                 self.journal = head_row(self.model.saved())
             elif call[0] == 3:
                 self.journal = call[2:2 + told[2]]
-            else:
+            elif call[0] == 13:
+                self.journal = told[1:]
+            elif call[0] < 8:
                 self.journal = self.journal + told[1:]
         return told
 
 
-class SecondTelling(unittest.TestCase):
+class SecondTelling(Case):
     def test_random_lines(self):
         for seed in range(60):
             chance = Chance(seed)
@@ -123,6 +156,9 @@ class SecondTelling(unittest.TestCase):
             while len(calls) < 250 and sum(len(call) for call in calls) < 25000:
                 calls.append(chance.call())
                 told.append(chance.answer(calls[-1]))
+            for question in QUESTIONS:
+                calls.append(question)
+                told.append(chance.answer(question))
             self.assertEqual(run(*calls), told, seed)
             self.check_state(calls, chance.model)
 

@@ -4,7 +4,9 @@ import random
 import unittest
 
 import helper
-from helper import LARGEST, UNDO, REDO, begin, drawing, firsts, go, held_behind, inner_sides, run, set_hedge, text_bytes
+from helper import (
+    LARGEST, REDO, UNDO, Case, begin, drawing, firsts, go, held_behind, inner_sides, run, set_hedge, text_bytes,
+)
 
 SIZES = ((1, 1), (1, 10), (10, 1), (10, 10), (1, 2), (2, 1), (2, 2), (3, 2), (7, 4))
 
@@ -13,7 +15,7 @@ def all_hedges(wide, high):
     return [1] * len(inner_sides(wide, high))
 
 
-class Drawings(unittest.TestCase):
+class Drawings(Case):
     def test_a_written_drawing(self):
         garden = text_bytes("+-+-+-+\n|   | |\n+ +-+ +\n|     |\n+-+-+-+\n")
         state = held_behind(begin(garden, 4))
@@ -112,7 +114,7 @@ class Drawings(unittest.TestCase):
             self.assertEqual(firsts(begin(row)), [-6 if helper.garden_of(row) is None else 0])
 
 
-class Squares(unittest.TestCase):
+class Squares(Case):
     def test_each_square(self):
         for wide, high in SIZES:
             garden = drawing(wide, high)
@@ -125,7 +127,7 @@ class Squares(unittest.TestCase):
                 self.assertEqual(run(begin(drawing(wide, high), square)), [[-4]])
 
 
-class Refusals(unittest.TestCase):
+class Refusals(Case):
     def test_how_many_bytes(self):
         for byte in (0, 10, 43, 255):
             self.assertEqual(run(begin([byte] * 1024)), [[-6]])

@@ -24,6 +24,11 @@ NO_WORDS = r"\b(type|typing|typing_extensions|enum|Enum|IntEnum|StrEnum|Flag|Int
 NO_NAMES = set("""register mro elements open input version_info with_traceback add_note format format_map attrgetter
     breakpoint builtins compile copyright credits delattr dir eval exec exit gc getattr globals hasattr help id importlib
     license locals methodcaller os quit setattr super vars sys chr""".split())
+WALKED = ("zip", "enumerate", "reversed", "range", "items", "keys", "values")
+WALKERS = ("list", "tuple", "dict", "sorted", "sum", "any", "all", "enumerate", "zip", "min", "max", "join")
+# Lists, texts and their kin have these as methods or values; an object's own value may not be called so (L26).
+TAKEN_VALUES = {word for kind in (str, int, list, tuple, dict, set, bytes) for word in dir(kind)} - set(
+    "count index title find get join lower upper split strip copy add".split())
 PLAIN_METHODS = ("__init__", "__eq__", "__repr__", "__str__", "__len__")
 
 
@@ -191,6 +196,62 @@ class Names(unittest.TestCase):
                     self.assertNotIn(node.attr, NO_NAMES)
                     if id(node) in called:
                         self.assertIn(node.attr, METHODS | own, (name, node.lineno))
+
+
+def called_name(node):
+    return node.func.id if isinstance(node.func, ast.Name) else node.func.attr
+
+
+class Walks(unittest.TestCase):
+    def test_walked_on_the_spot(self):
+        for name, tree in trees():
+            walked = set()
+            for node in ast.walk(tree):
+                if isinstance(node, (ast.For, ast.comprehension)):
+                    walked.add(id(node.iter))
+                elif isinstance(node, ast.Call) and called_name(node) in WALKERS:
+                    walked.update(id(part) for part in node.args)
+            for node in ast.walk(tree):
+                if isinstance(node, ast.Call) and called_name(node) in WALKED:
+                    self.assertIn(id(node), walked, (name, node.lineno))
+
+    def test_what_is_walked_is_not_changed(self):
+        for name, loop in nodes(ast.For):
+            parts = {ast.unparse(node) for node in ast.walk(loop.iter) if isinstance(node, (ast.Name, ast.Attribute))}
+            for node in [node for row in loop.body for node in ast.walk(row)]:
+                if isinstance(node, ast.Subscript) and isinstance(node.ctx, ast.Store):
+                    self.assertNotIn(ast.unparse(node.value), parts, (name, node.lineno))
+                if isinstance(node, ast.Call) and isinstance(node.func, ast.Attribute):
+                    self.assertNotIn(ast.unparse(node.func.value), parts, (name, node.lineno))
+
+    def test_no_sets(self):
+        for name, node in nodes(ast.Name):
+            self.assertNotIn(node.id, ("set", "frozenset"), (name, node.lineno))
+
+    def test_a_comprehension_is_plain(self):
+        for name, node in nodes(ast.ListComp):
+            self.assertEqual(len(node.generators), 1, (name, node.lineno))
+            self.assertLessEqual(len(node.generators[0].ifs), 1, (name, node.lineno))
+
+    def test_calls_without_keywords(self):
+        for name, node in nodes(ast.Call):
+            self.assertEqual(node.keywords, [], (name, node.lineno))
+
+    def test_values_of_objects(self):
+        for name, node in nodes(ast.Attribute):
+            if isinstance(node.ctx, ast.Store):
+                self.assertNotIn(node.attr, TAKEN_VALUES, (name, node.lineno))
+                self.assertIsInstance(node.value, (ast.Name, ast.Attribute), (name, node.lineno))
+
+    def test_lists_of_the_top_are_not_there(self):
+        for name, tree in trees():
+            for node in tree.body:
+                if isinstance(node, ast.Assign):
+                    self.assertNotIsInstance(node.value, (ast.List, ast.Dict), (name, node.lineno))
+
+    def test_no_annotations(self):
+        for name, node in nodes(ast.FunctionDef, ast.arg):
+            self.assertIsNone(node.returns if isinstance(node, ast.FunctionDef) else node.annotation, name)
 
 
 class Kept(unittest.TestCase):

@@ -5,7 +5,7 @@ import unittest
 
 import helper
 from helper import (
-    LARGEST, REDO, REDO_ROW, UNDO, UNDO_ROW, begin, change_row, drawing, firsts, four, go, go_row, head_row, held,
+    LARGEST, REDO, REDO_ROW, UNDO, UNDO_ROW, Case, begin, change_row, drawing, firsts, four, go, go_row, head_row, held,
     held_behind, inner_sides, load, note_rows, record_behind, run, seen, session_row, set_hedge, set_row, summed,
 )
 from hedgerecord.writing import read_session, session_bytes
@@ -15,7 +15,7 @@ STEPS = [go_row(1), set_row(1, 0), go_row(2), go_row(3), set_row(0, 1)]
 RIGHT = session_row(GARDEN, 0, STEPS[:3], STEPS[3:])
 
 
-class Right(unittest.TestCase):
+class Right(Case):
     def test_a_session_written_out(self):
         row = [0x4D, 0x5A, 0x53, 0x31, 12, 0, 0, 0] + helper.text_bytes("+-+\n| |\n+-+\n") + [0] * 10
         self.assertEqual(run(load(summed(row))), [[0]])
@@ -88,7 +88,7 @@ def held_session(model):
     return record_behind(*model.calls).journal.session
 
 
-class Journal(unittest.TestCase):
+class Journal(Case):
     def test_a_journal_is_begun_from_the_session_loaded(self):
         changes = [UNDO_ROW, REDO_ROW, go_row(3), set_row(2, 1)]
         notes = note_rows(head_row(RIGHT), changes)
@@ -96,7 +96,7 @@ class Journal(unittest.TestCase):
         self.assertEqual(told[2:], [[0]] + [[0] + note for note in notes])
 
 
-class Wrong(unittest.TestCase):
+class Wrong(Case):
     def refuse(self, row, *words):
         self.assertEqual(run(load(row)), [[-9]], words)
 

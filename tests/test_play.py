@@ -3,7 +3,7 @@
 import unittest
 
 from helper import (
-    LARGEST, REDO, REDO_ROW, UNDO, UNDO_ROW, begin, change_row, crc, drawing, firsts, four, go, go_row, head_row,
+    LARGEST, REDO, REDO_ROW, UNDO, UNDO_ROW, Case, begin, change_row, crc, drawing, firsts, four, go, go_row, head_row,
     held_behind, journal_row, load, note_rows, play, run, seen, session_row, set_hedge, set_row, summed,
 )
 
@@ -17,7 +17,7 @@ NOTES = note_rows(HEAD, CHANGES)
 WHOLE = journal_row(SESSION, CHANGES)
 
 
-class Whole(unittest.TestCase):
+class Whole(Case):
     def test_it_comes_to_the_session(self):
         self.assertEqual(firsts(load(SESSION), *CALLS), [0] * 12)
         self.assertEqual(run(play(WHOLE)), [[0, 11, len(WHOLE)]])
@@ -44,7 +44,7 @@ class Whole(unittest.TestCase):
             self.assertEqual(run(play(row)), [[0, 2, len(row)]])
 
 
-class Torn(unittest.TestCase):
+class Torn(Case):
     def test_at_each_byte(self):
         states = [held_behind(load(SESSION), *CALLS[:size]) for size in range(len(CALLS) + 1)]
         for size in range(len(WHOLE) + 1):
@@ -82,7 +82,7 @@ class Torn(unittest.TestCase):
             self.assertEqual(held_behind(play(WHOLE + more)), held_behind(play(WHOLE)))
 
 
-class Sums(unittest.TestCase):
+class Sums(Case):
     def played(self, *twelves):
         return run(play(HEAD + [byte for twelve in twelves for byte in twelve]))[0][1]
 
@@ -99,7 +99,7 @@ class Sums(unittest.TestCase):
         self.assertEqual(self.played(first, step + four(crc(HEAD + first + step))), 1)
 
 
-class CannotBeDone(unittest.TestCase):
+class CannotBeDone(Case):
     def check(self, session, good, wrong, behind=(set_row(0, 1), UNDO_ROW)):
         head = head_row(session)
         row = journal_row(session, list(good) + [wrong] + list(behind))
@@ -138,7 +138,7 @@ class CannotBeDone(unittest.TestCase):
         self.check(session_row(GARDEN, 0, steps), [UNDO_ROW, REDO_ROW, UNDO_ROW, go_row(2)], set_row(0, 0))
 
 
-class NoBeginning(unittest.TestCase):
+class NoBeginning(Case):
     def refuse(self, row):
         self.assertEqual(run(play(row)), [[-9]])
 
@@ -186,7 +186,7 @@ class NoBeginning(unittest.TestCase):
             self.assertEqual(run(refused, UNDO), [run(refused)[0], [-10]])
 
 
-class GoesOn(unittest.TestCase):
+class GoesOn(Case):
     def test_behind_play(self):
         for kept in range(len(CALLS) + 1):
             torn = WHOLE[:len(HEAD) + 12 * kept + 5]

@@ -3,8 +3,8 @@
 import unittest
 
 from helper import (
-    LARGEST, REDO, REDO_ROW, UNDO, UNDO_ROW, begin, drawing, firsts, go, go_row, head_row, held_behind, inner_sides,
-    load, note_rows, play, run, seen, session_row, set_hedge, set_row,
+    LARGEST, REDO, REDO_ROW, UNDO, UNDO_ROW, Case, begin, drawing, firsts, go, go_row, head_row, held_behind,
+    inner_sides, load, note_rows, play, run, seen, session_row, set_hedge, set_row,
 )
 
 PLAIN = ("drawing", "first", "size", "hedges", "square", "done", "before")
@@ -15,7 +15,7 @@ def plain(state):
     return {name: state[name] for name in PLAIN}
 
 
-class NoSession(unittest.TestCase):
+class NoSession(Case):
     def test_before_all_else(self):
         for call in (set_hedge(0, 1), set_hedge(LARGEST, LARGEST), go(0), go(LARGEST), UNDO, REDO):
             self.assertEqual(run(call), [[-10]])
@@ -26,7 +26,7 @@ class NoSession(unittest.TestCase):
             self.assertEqual(run(refused, set_hedge(0, 2), go(4), UNDO, REDO)[1:], [[-10]] * 4)
 
 
-class Set(unittest.TestCase):
+class Set(Case):
     def test_each_side_of_a_garden(self):
         for wide, high in ((3, 2), (1, 10), (10, 1), (10, 10)):
             sides = len(inner_sides(wide, high))
@@ -71,7 +71,7 @@ class Set(unittest.TestCase):
             self.assertEqual(run(begin(drawing(1, 1)), set_hedge(LARGEST, z))[1], [-1])
 
 
-class Go(unittest.TestCase):
+class Go(Case):
     def test_each_square_of_passages(self):
         for wide, high in ((1, 1), (1, 10), (10, 1), (10, 10), (3, 2)):
             sides = inner_sides(wide, high)
@@ -116,7 +116,7 @@ class Go(unittest.TestCase):
             self.assertEqual(run(begin(drawing(1, 1)), go(k))[1], [-1])
 
 
-class UndoRedo(unittest.TestCase):
+class UndoRedo(Case):
     STEPS = (set_hedge(0, 1), go(1), set_hedge(0, 0), set_hedge(0, 0), go(3), set_hedge(5, 1), go(0), set_hedge(5, 1))
 
     def test_taken_back_as_before_and_done_again_as_behind(self):
@@ -173,7 +173,7 @@ class UndoRedo(unittest.TestCase):
             self.assertEqual(firsts(*calls, refused, REDO, REDO, REDO)[-3:], [0, 0, -5])
 
 
-class AtMost(unittest.TestCase):
+class AtMost(Case):
     FULL = [begin(drawing(2, 2))] + [go(1), go(3)] * 50 + [set_hedge(0, 1), set_hedge(0, 0)] * 50
 
     def test_200_are_done_and_no_more(self):
@@ -210,7 +210,7 @@ class AtMost(unittest.TestCase):
         self.assertEqual(firsts(*back, UNDO)[-1], -5)
 
 
-class Refused(unittest.TestCase):
+class Refused(Case):
     def test_all_is_as_it_was(self):
         calls = [begin(drawing(2, 1)), set_hedge(0, 1), set_hedge(0, 0), go(1), UNDO]
         for refused in (set_hedge(0, 2), set_hedge(1, 0), set_hedge(1, 2), go(0), go(2), go(3), go(4)):

@@ -3,10 +3,11 @@
 import unittest
 
 import helper
+from helper import Case
 from hedgerecord.sums import number_at, number_bytes, sum_of
 
 
-class Sums(unittest.TestCase):
+class Sums(Case):
     def test_known_sums(self):
         # Published check values of CRC-32C: "123456789", and RFC 3720's 32 bytes.
         self.assertEqual(sum_of(helper.text_bytes("123456789")), 0xE3069283)
